@@ -28,6 +28,14 @@ func TestRefused(t *testing.T) {
 	}
 }
 
+// P19.1: the kinds' numbers.
+func TestKinds(t *testing.T) {
+	kinds := []int{NoSuper, BadBitmap, BadNode, BadOrder, BadChunk, Twice, Missing, Leaked}
+	if !slices.Equal(kinds, []int{1, 2, 3, 4, 5, 6, 7, 8}) {
+		t.Error(kinds)
+	}
+}
+
 // P19.1: an image without a superblock that is right: nothing else is looked at.
 func TestNoSuper(t *testing.T) {
 	none := Defect{NoSuper, 0}
